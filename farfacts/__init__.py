@@ -1,0 +1,1 @@
+"""Farfacts: authorization decisions over facts that lie elsewhere and change."""

@@ -1,0 +1,55 @@
+"""The names and arguments of the interface, in the files under which they are listed."""
+
+import importlib
+import inspect
+import unittest
+
+FUNCTIONS = {
+    "names": ("is_name(text)", "is_uid(text)", "kind_of(uid)", "id_of(uid)", "check_name(text, what='name')",
+              "check_uid(text, what='uid')"),
+    "values": ("scalar_before(one, two)", "is_value(value)", "check_value(value, what='value')", "make_set(scalars)",
+               "write_value(value)"),
+    "expressions": ("operands(node)", "check_expression(expression, what='condition')", "starts(expression)",
+                    "write_expression(expression)"),
+    "tokens": ("split_text(text)",),
+}
+
+CLASSES = {
+    "errors": {"TextFault": ("__init__(self, line, column, words)",), "OutOfRange": ("__init__(self, name)",),
+               "ChangeRefused": ("__init__(self, number, words)",)},
+}
+
+
+def bare(signature):
+    """The signature without annotations, which are free."""
+    parameters = [one.replace(annotation=inspect.Parameter.empty) for one in signature.parameters.values()]
+    return inspect.Signature(parameters)
+
+
+class InterfaceTest(unittest.TestCase):
+    def check(self, module, name, what, wanted):
+        self.assertEqual(what.__module__, module)
+        self.assertEqual(name + str(bare(inspect.signature(what))), wanted)
+
+    def test_functions(self):
+        for short, wanted in FUNCTIONS.items():
+            module = importlib.import_module("farfacts." + short)
+            for line in wanted:
+                name = line.partition("(")[0]
+                self.assertTrue(inspect.isfunction(getattr(module, name)), line)
+                self.check(module.__name__, name, getattr(module, name), line)
+
+    def test_classes(self):
+        for short, table in CLASSES.items():
+            module = importlib.import_module("farfacts." + short)
+            for name, wanted in table.items():
+                self.assertEqual(getattr(module, name).__module__, module.__name__)
+                for line in wanted:
+                    method = line.partition("(")[0]
+                    # Each method stands in the class itself, not in a base class alone.
+                    self.assertIn(method, vars(getattr(module, name)), line)
+                    self.check(module.__name__, method, vars(getattr(module, name))[method], line)
+
+
+if __name__ == "__main__":
+    unittest.main()
