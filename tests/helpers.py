@@ -1,5 +1,6 @@
 """What several tests use: cases that look at errors and kinds, and expressions put together from parts."""
 
+import re
 import unittest
 
 from farfacts.errors import ChangeRefused, OutOfRange, TextFault
@@ -111,3 +112,30 @@ class Recorder:
         if read not in self.asked:
             self.asked.append(read)
         return self.known.get(read)
+
+
+def tokens_of(written):
+    """The tokens of a text without comments, as they stand in it."""
+    return re.findall(r'"[^"\n]*"|[()]|[^ \n()"]+', written)
+
+
+def tight(written):
+    """The same tokens with as few gaps as can be."""
+    text = ""
+    for token in tokens_of(written):
+        apart = text and text[-1] not in '()"' and token[0] not in '()"'
+        text += " " + token if apart else token
+    return text
+
+
+def respaced(written):
+    """The same tokens with other gaps and with comments between them."""
+    row = tokens_of(written)
+    return [written, tight(written)] + [gap + gap.join(row) + gap for gap in (
+        " ", "   ", "\n", "\n\n \n  ", "# ( \"x )\n", " # yes no\n", "#\n", "\n# set\n", " #(((((\n ")]
+
+
+def end_of(text):
+    """The line and the column of the position after the last character."""
+    lines = text.split("\n")
+    return len(lines), len(lines[-1]) + 1

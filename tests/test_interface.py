@@ -12,11 +12,21 @@ FUNCTIONS = {
     "expressions": ("operands(node)", "check_expression(expression, what='condition')", "starts(expression)",
                     "write_expression(expression)"),
     "tokens": ("split_text(text)",),
+    "reading": ("read_value(text)", "read_expression(text)", "read_book(text)", "read_changes(text)"),
+    "writing": ("write_policy(policy)", "write_change(change)", "write_book(policies)", "write_changes(changes)"),
+    "requests": ("check_request(request)", "request_kind(request)", "context_value(request, name)",
+                 "with_part(request, part, uid)"),
+    "databases": ("check_entity(entity)", "check_change(change)", "check_changes(changes)"),
+    "evaluating": ("join_reads(one, two)", "evaluate(expression, request, source)"),
 }
 
 CLASSES = {
     "errors": {"TextFault": ("__init__(self, line, column, words)",), "OutOfRange": ("__init__(self, name)",),
                "ChangeRefused": ("__init__(self, number, words)",)},
+    "databases": {"Database": (
+        "__init__(self, entities)", "entities(self)", "many(self)", "has(self, uid)", "attribute(self, uid, name)",
+        "parents(self, uid)", "ancestors(self, uid)", "within(self, uid, other)", "tell(self, read)", "same(self, other)",
+        "changed(self, changes)")},
 }
 
 
