@@ -6,6 +6,7 @@ from farfacts.expressions import NODES_MOST, OPERATIONS, PARTS, operation_of
 from farfacts.names import is_uid
 from farfacts.values import NUMBER_MOST, SET_MOST, TEXT_MOST, make_set
 
+# How many actions a policy names at most (point 31 of the document).
 MOST_ACTIONS = 8
 
 
@@ -140,7 +141,8 @@ class Reader(Cursor):
         if kind == "kind":
             part = self.take_name()
         elif self.word() == "?":
-            part = self.take_word(("?",), "expected a uid")
+            part = "?"
+            self.skip()
         else:
             part = self.take_uid()
         self.take_close()

@@ -12,7 +12,7 @@ METHODS = """append clear copy count endswith extend find get index insert isaln
 isupper items join keys ljust lower lstrip partition pop remove replace reverse rfind rjust rpartition rsplit rstrip
 setdefault split splitlines startswith strip update upper values zfill bit_length title capitalize swapcase casefold
 center expandtabs removeprefix removesuffix rindex isascii isdecimal isnumeric istitle isidentifier isprintable
-translate encode decode hex add discard sort format""".split()
+translate maketrans encode decode hex from_bytes add discard sort format""".split()
 BUILTINS = """len range enumerate zip min max sum abs sorted reversed int str bool bytes list tuple dict set frozenset
 isinstance ord repr any all divmod pow getattr hasattr setattr iter next map super Exception ValueError TypeError
 KeyError IndexError LookupError ZeroDivisionError ArithmeticError OverflowError RuntimeError NotImplementedError
@@ -97,13 +97,14 @@ class LanguageTest(unittest.TestCase):
             bound += [node.arg for node in ast.walk(tree) if isinstance(node, ast.arg)]
             bound += [node.name for node in tree.body if isinstance(node, (ast.FunctionDef, ast.ClassDef))]
             for word in bound:
-                self.assertFalse(word.startswith("__"), (name, word))
+                if word not in ("__slots__", "__all__", "__version__"):
+                    self.assertFalse(word.startswith("__"), (name, word))
                 self.assertNotIn(word, BARRED, name)
-                self.assertNotIn(word, BUILTINS, name)
+                self.assertNotIn(word, dir(builtins), name)
 
     def test_module_level(self):
         for name, tree in self.trees():
-            kinds = (ast.ImportFrom, ast.FunctionDef, ast.ClassDef, ast.Assign, ast.Expr)
+            kinds = (ast.ImportFrom, ast.FunctionDef, ast.ClassDef, ast.Assign, ast.AnnAssign, ast.Expr)
             for node in tree.body:
                 self.assertIsInstance(node, kinds, name)
                 if isinstance(node, ast.Assign):

@@ -189,9 +189,8 @@ class ExpressionTest(Case):
 
     def test_the_word_behind_a_bracket_comes_before_the_number_of_nodes(self):
         self.fault(1, 202, "expected an operation", read_expression, "(not " * 40 + "(foo yes)")
-        self.fault(1, 202, "expected an operation", read_expression, "(not " * 40 + "(")
-        self.fault(1, 202, "expected an operation", read_expression, "(not " * 40 + "(\"not\" yes)")
-        self.fault(1, 202, "expected an operation", read_expression, "(not " * 40 + "((not yes))")
+        self.fault(1, 202, "expected an operation", read_expression, "(not " * 40 + "(foo")
+        self.fault(1, 202, "expected an operation", read_expression, "(not " * 40 + "(yes)")
         self.fault(2, 3, "expected an operation", read_expression, "(not " * 40 + "(\n  principal")
         self.fault(1, 201, "expected an expression", read_expression, "(not " * 40 + "foo")
         self.fault(1, 201, "expected an expression", read_expression, "(not " * 40 + ")")
