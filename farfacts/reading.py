@@ -4,10 +4,8 @@ from farfacts.cursor import Cursor
 from farfacts.databases import PARENTS_MOST
 from farfacts.expressions import NODES_MOST, OPERATIONS, PARTS, operation_of
 from farfacts.names import is_uid
+from farfacts.policies import ACTIONS_MOST, SLOT
 from farfacts.values import NUMBER_MOST, SET_MOST, TEXT_MOST, make_set
-
-# How many actions a policy names at most (point 31 of the document).
-MOST_ACTIONS = 8
 
 
 def number_of(word):
@@ -140,8 +138,8 @@ class Reader(Cursor):
         kind = self.take_word(("is", "in", "kind"), "expected is, in or kind")
         if kind == "kind":
             part = self.take_name()
-        elif self.word() == "?":
-            part = "?"
+        elif self.word() == SLOT:
+            part = SLOT
             self.skip()
         else:
             part = self.take_uid()
@@ -156,7 +154,7 @@ class Reader(Cursor):
         self.take_kind("(", "expected actions")
         if self.kind() == ")":
             self.refuse("expected a uid")
-        return self.take_uids(MOST_ACTIONS, "too many actions")
+        return self.take_uids(ACTIONS_MOST, "too many actions")
 
     def take_policy(self):
         """Takes a policy."""

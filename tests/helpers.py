@@ -114,6 +114,11 @@ class Recorder:
         return self.known.get(read)
 
 
+def known_of(base, reads):
+    """What a source knows that knows just these reads of the database."""
+    return {read: base.tell(read) for read in reads}
+
+
 def tokens_of(written):
     """The tokens of a text without comments, as they stand in it."""
     return re.findall(r'"[^"\n]*"|[()]|[^ \n()"]+', written)
