@@ -18,6 +18,16 @@ FUNCTIONS = {
                  "with_part(request, part, uid)"),
     "databases": ("check_entity(entity)", "check_change(change)", "check_changes(changes)"),
     "evaluating": ("join_reads(one, two)", "evaluate(expression, request, source)"),
+    "policies": ("check_policy(policy, *, slots=False)", "is_template(policy)", "slots_of(policy)",
+                 "in_scope(scope, uid, source)", "policy_state(policy, request, source)", "can_apply(policy, kind)"),
+    "deciding": ("decide(policies, request, source)",),
+    "templates": ("link_template(template, name, principal, resource)",),
+    "paths": ("node_paths(expression)", "expression_manifest(expression)", "split_path(path)"),
+    "manifests": ("join_manifests(manifests)", "policy_manifest(policy)", "manifest(policies, kind)", "longest(manifest)"),
+    "following": ("follow(root, names, request, source)", "named_reads(manifest, request, database)",
+                  "next_reads(manifest, request, source)"),
+    "slices": ("slice_of(database, request, manifest)",),
+    "questions": ("permitted(policies, part, request, kind, database)",),
 }
 
 CLASSES = {
@@ -27,6 +37,10 @@ CLASSES = {
         "__init__(self, entities)", "entities(self)", "many(self)", "has(self, uid)", "attribute(self, uid, name)",
         "parents(self, uid)", "ancestors(self, uid)", "within(self, uid, other)", "tell(self, read)", "same(self, other)",
         "changed(self, changes)")},
+    "stores": {"Store": (
+        "__init__(self)", "apply(self, edit)", "load(self, text)", "undo(self)", "policies(self)", "templates(self)",
+        "edit_count(self)", "book(self)")},
+    "index": {"Index": ("__init__(self, policies)", "select(self, kind)", "size(self)")},
 }
 
 
