@@ -28,6 +28,8 @@ FUNCTIONS = {
                   "next_reads(manifest, request, source)"),
     "slices": ("slice_of(database, request, manifest)",),
     "questions": ("permitted(policies, part, request, kind, database)",),
+    "facts": ("check_fact(fact)",),
+    "papers": ("paper_of(policies, request, source)", "judge(policies, request, decision, paper)", "agrees(paper, source)"),
 }
 
 CLASSES = {
@@ -41,6 +43,21 @@ CLASSES = {
         "__init__(self)", "apply(self, edit)", "load(self, text)", "undo(self)", "policies(self)", "templates(self)",
         "edit_count(self)", "book(self)")},
     "index": {"Index": ("__init__(self, policies)", "select(self, kind)", "size(self)")},
+    "facts": {
+        "Told": ("__init__(self, rows)", "tell(self, read)"),
+        "Known": ("__init__(self)", "learn(self, fact)", "at(self, read, version)", "span(self, read, version)",
+                  "spans(self, read)", "reads(self)", "facts(self)", "newest(self)", "view(self, version)",
+                  "duplicate(self)"),
+        "View": ("__init__(self, known, version)", "tell(self, read)")},
+    "sessions": {"Session": (
+        "__init__(self, policies, request, mode)", "policies(self)", "manifest(self)", "asks(self, source)",
+        "decision(self, source)", "reads(self, source)")},
+    "history": {"History": (
+        "__init__(self, database, base)", "base(self)", "newest(self)", "commit(self, changes)", "database(self, version)",
+        "told(self, read, version)", "fact(self, read, version, upto)")},
+    "disks": {"Disk": (
+        "__init__(self, blocks)", "size(self)", "read(self, at)", "write(self, at, block)", "flush(self)",
+        "pending_count(self)", "cut_count(self)", "cut_power(self, torn)", "schedule_cut(self, many, torn)")},
 }
 
 
