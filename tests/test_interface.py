@@ -30,6 +30,10 @@ FUNCTIONS = {
     "questions": ("permitted(policies, part, request, kind, database)",),
     "facts": ("check_fact(fact)",),
     "papers": ("paper_of(policies, request, source)", "judge(policies, request, decision, paper)", "agrees(paper, source)"),
+    "blocks": ("encode_record(mark, number, text)", "decode_piece(block)", "encode_head(generation, base, many)",
+               "decode_head(block)"),
+    "keeper": ("area_size(disk)", "area_start(disk, area)", "format_disk(disk, database)", "newest_head(disk)",
+               "open_disk(disk)"),
 }
 
 CLASSES = {
@@ -58,6 +62,23 @@ CLASSES = {
     "disks": {"Disk": (
         "__init__(self, blocks)", "size(self)", "read(self, at)", "write(self, at, block)", "flush(self)",
         "pending_count(self)", "cut_count(self)", "cut_power(self, torn)", "schedule_cut(self, many, torn)")},
+    "keeper": {"Keeper": (
+        "append(self, changes)", "sync(self)", "compact(self)", "base(self)", "newest(self)", "database(self, version)",
+        "fact(self, read, version, upto)", "history(self)", "free_blocks(self)")},
+    "house": {"House": (
+        "__init__(self, disk)", "commit(self, changes)", "sync(self)", "compact(self)", "synced(self)", "newest(self)",
+        "base(self)", "answer(self, reads)", "database(self, version)", "free_blocks(self)")},
+    "desks": {"Desk": (
+        "__init__(self, policies)", "begin(self, request, mode)", "version(self)", "learn(self, facts)", "known(self)",
+        "asks(self, number)", "renew(self, number)", "told(self, number)", "told_at(self, number, version)",
+        "paper(self, number)")},
+    "link": {"Link": (
+        "__init__(self, database, policies, desks, blocks)", "begin(self, desk, request, mode)", "send(self, desk, number)",
+        "renew(self, desk, number)", "told(self, desk, number)", "told_at(self, desk, number, version)",
+        "paper(self, desk, number)", "letters(self)", "drop(self, letter)", "duplicate(self, letter)",
+        "deliver(self, letter)", "commit(self, changes)", "sync(self)", "compact(self)", "house_version(self)",
+        "database(self, version)", "is_open(self)", "cut_power(self, torn)", "schedule_cut(self, many, torn)",
+        "reopen(self)")},
 }
 
 
