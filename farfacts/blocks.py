@@ -2,7 +2,7 @@
 
 from farfacts.disks import BLOCK
 from farfacts.errors import OutOfRange
-from farfacts.values import PERCENT, is_sign
+from farfacts.values import PERCENT
 
 PIECE = 24
 PIECES_MOST = 255
@@ -37,8 +37,6 @@ def block_of(start, end):
 
 def encode_record(mark, number, text):
     """The list of the blocks of the record of the text."""
-    if not all([sign == "\n" or is_sign(sign) for sign in text]):
-        raise OutOfRange("text")
     # The empty text has a piece, too.
     pieces = [text[at:at + PIECE] for at in range(0, max(len(text), 1), PIECE)]
     if len(pieces) > PIECES_MOST:

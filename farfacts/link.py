@@ -2,7 +2,7 @@
 
 from farfacts.desks import Desk
 from farfacts.disks import Disk
-from farfacts.errors import NoLetter, NotOpen, OutOfRange
+from farfacts.errors import NoLetter, OutOfRange
 from farfacts.house import READS_MOST, House
 from farfacts.keeper import format_disk
 
@@ -101,19 +101,12 @@ class Link:
         """Makes room on the disk, and syncs all versions; the last one."""
         return self._house.compact()
 
-    def _check_open(self):
-        """Refuses what needs a house that is open."""
-        if not self.is_open():
-            raise NotOpen("the power was cut")
-
     def house_version(self):
         """The last version that is synced, and the last one."""
-        self._check_open()
         return (self._house.synced(), self._house.newest())
 
     def database(self, version):
         """The database of the house at the version."""
-        self._check_open()
         return self._house.database(version)
 
     def is_open(self):

@@ -354,6 +354,9 @@ class OpenTest(Case):
         for many in (4, 5, 40, 41, 255):
             self.check_not_kept(right, (0, 0, many))
         self.check_not_kept(right + log(1, aged(1)), (0, 0, 4))
+        # No history begins at such a base.
+        for base in (90001, 100000, 16777215):
+            self.check_not_kept(right, (0, base, 3))
         # The area of the other generation is not looked at.
         self.check_not_kept(right, (1, 0, 3))
 
