@@ -10,18 +10,11 @@ from farfacts.papers import judge, paper_of
 from farfacts.policies import can_apply
 from farfacts.requests import request_kind
 from farfacts.sessions import Session
-from helpers import PRINCIPAL, RESOURCE, YES, Case, entity, number, op, truth
-from worlds import ENTITIES, NAMES, UIDS, World
+from helpers import YES, Case, entity, number, truth
+from worlds import ANY, BOB, BOSS, ENTITIES, NAMES, OPEN, OWNER, POLICIES, REQUEST, UIDS, World
 
-REQUEST = ("user:bob", "action:share", "doc:plan", ())
-ANY = ("any",)
-OPEN, OWNER = ("attribute", "doc:plan", "open"), ("attribute", "doc:plan", "owner")
-BOSS, BOB = ("attribute", "user:bob", "boss"), ("ancestors", "user:bob")
-POLICIES = [
-    ("staff", "forbid", ("in", "group:staff"), None, ANY, op("same", PRINCIPAL, op("get", op("get", RESOURCE, "owner"), "boss"))),
-    ("never", "forbid", ("in", "group:staff"), None, ("kind", "folder"), YES),
-    ("shown", "permit", ANY, None, ("kind", "doc"), op("get", RESOURCE, "open")),
-]
+# The one in the middle cannot apply to the request.
+DESK_POLICIES = POLICIES[:1] + [("never", "forbid", ("in", "group:staff"), None, ("kind", "folder"), YES)] + POLICIES[1:]
 STAFF, NOBODY = ("above", ("group:staff",)), ("above", ())
 IS_BOB, IS_ANN = ("value", entity("user:bob")), ("value", entity("user:ann"))
 YES_TOLD, NO_TOLD = ("value", truth(True)), ("value", truth(False))
@@ -30,7 +23,7 @@ ALWAYS = [("p", "permit", ANY, None, ANY, YES)]
 
 
 class DeskTest(Case):
-    def desk(self, *facts, modes=("lazy",), policies=POLICIES):
+    def desk(self, *facts, modes=("lazy",), policies=DESK_POLICIES):
         made = Desk(policies)
         for mode in modes:
             made.begin(REQUEST, mode)
@@ -39,7 +32,7 @@ class DeskTest(Case):
 
     def test_begin(self):
         self.exactly(desks.SESSIONS_MOST, 20)
-        made = Desk(POLICIES)
+        made = Desk(DESK_POLICIES)
         for number_of in range(20):
             self.exactly(made.begin(REQUEST, ("lazy", "batch")[number_of % 2]), number_of)
         for mode in ("lazy", "batch"):
@@ -51,7 +44,7 @@ class DeskTest(Case):
         self.exactly((made.asks(0), made.asks(19)), ([BOB], [OWNER, OPEN, BOB]))
 
     def test_bad_sessions(self):
-        made = Desk(POLICIES)
+        made = Desk(DESK_POLICIES)
         for name, request, mode in (
                 ("principal", ("bob", "action", "doc", ()), "quick"), ("action", ("user:bob", "share", "doc", ()), "lazy"),
                 ("resource", ("user:bob", "action:share", "doc", ()), "lazy"),
@@ -61,7 +54,7 @@ class DeskTest(Case):
         self.exactly(made.begin(REQUEST, "batch"), 0)
 
     def test_no_session(self):
-        made = Desk(POLICIES)
+        made = Desk(DESK_POLICIES)
         for many in range(3):
             for number_of in (-1, -20, many, many + 1, 20, 100):
                 for call in (made.asks, made.renew, made.told, made.paper):
@@ -71,7 +64,7 @@ class DeskTest(Case):
             made.begin(REQUEST, "lazy")
 
     def test_version(self):
-        made = Desk(POLICIES)
+        made = Desk(DESK_POLICIES)
         self.exactly(made.version(), 0)
         for fact, version in (((BOB, NOBODY, 0, 0), 0), ((OWNER, IS_BOB, 3, 5), 5), ((BOB, NOBODY, 1, 2), 5),
                               ((OPEN, YES_TOLD, 100000, 100000), 100000)):
@@ -79,7 +72,7 @@ class DeskTest(Case):
             self.exactly(made.version(), version)
 
     def test_learn(self):
-        made = Desk(POLICIES)
+        made = Desk(DESK_POLICIES)
         self.exactly(made.learn([]), 0)
         rows = [(BOB, NOBODY, 0, 2), (OWNER, IS_BOB, 1, 3), (BOB, NOBODY, 1, 2), (BOB, NOBODY, 2, 3), (BOB, NOBODY, 0, 3)]
         before = list(rows)
@@ -170,7 +163,7 @@ class DeskTest(Case):
             self.exactly((made.told(0), made.paper(0)), (None, None))
 
     def test_nothing_is_read(self):
-        for policies, decision in ((ALWAYS, (True, ("p",), ())), ([], (False, (), ())), (POLICIES[1:2], (False, (), ()))):
+        for policies, decision in ((ALWAYS, (True, ("p",), ())), ([], (False, (), ())), (DESK_POLICIES[1:2], (False, (), ()))):
             made = self.desk(policies=policies)
             self.exactly((made.told(0), made.paper(0), made.asks(0), made.renew(0)), ((decision, 0, 100000), (), [], []))
             for version in (0, 1, 99999, 100000):

@@ -4,20 +4,9 @@ from farfacts import link
 from farfacts.databases import Database
 from farfacts.errors import HouseFull, NoLetter, NoSession, NotOpen, PowerCut
 from farfacts.link import Link
-from helpers import PRINCIPAL, RESOURCE, YES, Case, entity, number, op, truth
+from helpers import RESOURCE, YES, Case, entity, number, op, truth
+from worlds import ANY, BOB, BOSS, OPEN, OWNER, PLAN, POLICIES, REQUEST
 
-START = [
-    ("user:bob", (("boss", entity("user:ann")),), ("group:staff",)),
-    ("doc:plan", (("open", truth(True)), ("owner", entity("user:bob"))), ()),
-]
-REQUEST = ("user:bob", "action:share", "doc:plan", ())
-ANY = ("any",)
-OPEN, OWNER = ("attribute", "doc:plan", "open"), ("attribute", "doc:plan", "owner")
-BOSS, BOB = ("attribute", "user:bob", "boss"), ("ancestors", "user:bob")
-POLICIES = [
-    ("staff", "forbid", ("in", "group:staff"), None, ANY, op("same", PRINCIPAL, op("get", op("get", RESOURCE, "owner"), "boss"))),
-    ("shown", "permit", ANY, None, ("kind", "doc"), op("get", RESOURCE, "open")),
-]
 STAFF, IS_BOB, IS_ANN = ("above", ("group:staff",)), ("value", entity("user:bob")), ("value", entity("user:ann"))
 YES_TOLD, NO_TOLD = ("value", truth(True)), ("value", truth(False))
 SHOWN, HIDDEN = (True, ("shown",), ()), (False, (), ())
@@ -38,7 +27,7 @@ WIDE = [wide("w" + str(n), range(13 * n, 13 * n + 13)) for n in range(4)]
 
 class LinkTest(Case):
     def link(self, policies=POLICIES, many=2, modes=("lazy", "batch"), blocks=60):
-        made = Link(Database(START), policies, many, blocks)
+        made = Link(Database(PLAN), policies, many, blocks)
         for desk in range(many):
             for mode in modes:
                 made.begin(desk, REQUEST, mode)
@@ -56,7 +45,7 @@ class LinkTest(Case):
     def test_making(self):
         self.exactly(link.DESKS_MOST, 3)
         for many in (1, 2, 3):
-            base = Database(START)
+            base = Database(PLAN)
             made = Link(base, POLICIES, many, 60)
             self.exactly((made.letters(), made.is_open(), made.house_version()), ([], True, (0, 0)))
             self.assertTrue(made.database(0).same(base))
@@ -66,8 +55,8 @@ class LinkTest(Case):
 
     def test_bounds(self):
         for many in (-1, 0, 4, 5):
-            self.out_of_range("desks", Link, Database(START), POLICIES, many, 60)
-            self.out_of_range("desks", Link, Database(START), POLICIES, many, 7)
+            self.out_of_range("desks", Link, Database(PLAN), POLICIES, many, 60)
+            self.out_of_range("desks", Link, Database(PLAN), POLICIES, many, 7)
         great = Database([("e:" + str(100 + n), (), ()) for n in range(40)])
         for blocks in (-1, 0, 7, 401):
             self.out_of_range("blocks", Link, great, POLICIES, 1, blocks)
@@ -248,7 +237,7 @@ class LinkTest(Case):
         self.exactly(changes, CLOSE)
         self.exactly((made.house_version(), made.sync(), made.house_version()), ((0, 1), 1, (1, 1)))
         self.exactly((made.commit([("drop", "doc:plan")]), made.house_version()), (2, (1, 2)))
-        for version, wanted in ((0, START), (1, None), (2, START[:1])):
+        for version, wanted in ((0, PLAN), (1, None), (2, PLAN[:1])):
             if wanted is not None:
                 self.assertTrue(made.database(version).same(Database(wanted)))
         self.exactly(made.database(1).attribute("doc:plan", "open"), truth(False))
@@ -367,7 +356,7 @@ class LinkTest(Case):
 
     def test_lists_are_not_kept(self):
         policies = list(POLICIES)
-        made = Link(Database(START), policies, 2, 60)
+        made = Link(Database(PLAN), policies, 2, 60)
         policies.clear()
         for desk in (0, 1):
             made.begin(desk, REQUEST, "lazy")

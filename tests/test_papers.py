@@ -5,21 +5,9 @@ from farfacts.databases import Database
 from farfacts.deciding import decide
 from farfacts.facts import Told
 from farfacts.papers import agrees, judge, paper_of
-from helpers import NO, PRINCIPAL, RESOURCE, YES, Case, Recorder, entity, items, known_of, number, op, text, truth
-from worlds import World
+from helpers import NO, YES, Case, Recorder, entity, items, known_of, number, text, truth
+from worlds import ANY, BOB, BOSS, OPEN, OWNER, PLAN, POLICIES, REQUEST, World
 
-BASE = [
-    ("user:bob", (("boss", entity("user:ann")), ("level", number(3))), ("group:staff",)),
-    ("doc:plan", (("open", truth(True)), ("owner", entity("user:bob"))), ()),
-]
-REQUEST = ("user:bob", "action:share", "doc:plan", ())
-ANY = ("any",)
-OPEN, OWNER = ("attribute", "doc:plan", "open"), ("attribute", "doc:plan", "owner")
-BOSS, BOB = ("attribute", "user:bob", "boss"), ("ancestors", "user:bob")
-POLICIES = [
-    ("staff", "forbid", ("in", "group:staff"), None, ANY, op("same", PRINCIPAL, op("get", op("get", RESOURCE, "owner"), "boss"))),
-    ("shown", "permit", ANY, None, ("kind", "doc"), op("get", RESOURCE, "open")),
-]
 DECISION = (True, ("shown",), ())
 PAPER = (
     (BOB, ("above", ("group:staff",))),
@@ -42,7 +30,7 @@ def with_row(paper, at, row):
 
 class PaperTest(Case):
     def setUp(self):
-        self.base = Database(BASE)
+        self.base = Database(PLAN)
 
     def test_paper_of(self):
         self.exactly(paper_of(POLICIES, REQUEST, self.base), (DECISION, PAPER))

@@ -9,22 +9,11 @@ from farfacts.manifests import longest, manifest
 from farfacts.policies import can_apply
 from farfacts.requests import request_kind
 from farfacts.sessions import Session
-from helpers import NO, PRINCIPAL, RESOURCE, YES, Case, Recorder, entity, known_of, number, op, truth
-from worlds import World
+from helpers import NO, PRINCIPAL, RESOURCE, YES, Case, Recorder, entity, known_of, number, op
+from worlds import ANY, BOB, BOSS, OPEN, OPENED, OWNER, PLAN, POLICIES, REQUEST, World
 
-BASE = [
-    ("user:bob", (("boss", entity("user:ann")), ("level", number(3))), ("group:staff",)),
-    ("doc:plan", (("open", truth(True)), ("owner", entity("user:bob"))), ()),
-]
-REQUEST = ("user:bob", "action:share", "doc:plan", ())
-ANY = ("any",)
-OPEN, OWNER = ("attribute", "doc:plan", "open"), ("attribute", "doc:plan", "owner")
-BOSS, LEVEL, BOB = ("attribute", "user:bob", "boss"), ("attribute", "user:bob", "level"), ("ancestors", "user:bob")
-
-OPENED = op("get", RESOURCE, "open")
-OWNED = op("same", PRINCIPAL, op("get", op("get", RESOURCE, "owner"), "boss"))
-SHOWN = ("shown", "permit", ANY, None, ("kind", "doc"), OPENED)
-STAFF = ("staff", "forbid", ("in", "group:staff"), ("action:share",), ANY, OWNED)
+LEVEL = ("attribute", "user:bob", "level")
+STAFF, SHOWN = POLICIES
 # Each of them cannot apply for a reason of its own.
 STRANGE = (
     ("other1", "permit", ANY, ("action:read",), ANY, op("has", PRINCIPAL, "level")),
@@ -46,7 +35,7 @@ BAD_REQUESTS = (
 
 class SessionTest(Case):
     def setUp(self):
-        self.base = Database(BASE)
+        self.base = Database(PLAN)
 
     def test_fields(self):
         for mode in MODES:

@@ -1,4 +1,4 @@
-"""Small worlds made of a random source with a fixed seed: databases, requests, expressions, policies."""
+"""Small worlds: one by hand, and others made of a random source with a fixed seed."""
 
 import random
 
@@ -7,7 +7,23 @@ from farfacts.errors import OutOfRange
 from farfacts.expressions import check_expression
 from farfacts.policies import can_apply
 from farfacts.values import make_set
-from helpers import NO, YES, entity, lit, number, op, text, truth
+from helpers import NO, PRINCIPAL, RESOURCE, YES, entity, lit, number, op, text, truth
+
+# The world by hand: a plan and its owner, a request, the reads that it needs, and policies that need them.
+PLAN = [
+    ("user:bob", (("boss", entity("user:ann")), ("level", number(3))), ("group:staff",)),
+    ("doc:plan", (("open", truth(True)), ("owner", entity("user:bob"))), ()),
+]
+REQUEST = ("user:bob", "action:share", "doc:plan", ())
+ANY = ("any",)
+OPEN, OWNER = ("attribute", "doc:plan", "open"), ("attribute", "doc:plan", "owner")
+BOSS, BOB = ("attribute", "user:bob", "boss"), ("ancestors", "user:bob")
+OPENED = op("get", RESOURCE, "open")
+OWNED = op("same", PRINCIPAL, op("get", op("get", RESOURCE, "owner"), "boss"))
+POLICIES = [
+    ("staff", "forbid", ("in", "group:staff"), ("action:share",), ANY, OWNED),
+    ("shown", "permit", ANY, None, ("kind", "doc"), OPENED),
+]
 
 KINDS = ("doc", "team", "user")
 UIDS = tuple(kind + ":" + letter for kind in KINDS for letter in "abc")
